@@ -2,9 +2,11 @@ package flow
 
 import (
 	"slices"
+	"strconv"
 	"strings"
 
 	"sinew/api"
+	"sinew/check"
 	"sinew/query"
 )
 
@@ -46,12 +48,26 @@ func (a asked) note() api.Note {
 	for _, x := range a.query.Atoms {
 		n.Rows = append(n.Rows, []string{termText(x.S), pathText(x.Path), termText(x.O)})
 	}
+	n.Nums = append(n.Nums, sumOf(n))
 	return n
+}
+
+// sumOf is a sum of all that a beginning note says, by which it is none any more once a piece of it is another one, though that may be, too.
+func sumOf(n api.Note) int {
+	var l []string
+	for _, num := range n.Nums {
+		l = append(l, strconv.Itoa(num))
+	}
+	l = append(l, n.Texts...)
+	for _, row := range n.Rows {
+		l = append(l, row...)
+	}
+	return check.Sum(strings.Join(l, " "))
 }
 
 // readAsked is what a beginning note says; false, if it is none.
 func readAsked(n api.Note) (asked, bool) {
-	if len(n.Nums) != 2 || len(n.Texts) > api.MaxVars || len(n.Rows) > api.MaxAtoms {
+	if len(n.Nums) != 3 || len(n.Texts) > api.MaxVars || len(n.Rows) > api.MaxAtoms {
 		return asked{}, false
 	}
 	a := asked{try: n.Nums[0], version: n.Nums[1]}
