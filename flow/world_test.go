@@ -27,7 +27,7 @@ func factsOf(s string) (facts []api.Triple) {
 }
 
 // parsed is the query of a text.
-func parsed(t *testing.T, s string) api.Query {
+func parsed(t testing.TB, s string) api.Query {
 	t.Helper()
 	r, at, e := query.Parse(s)
 	if e != api.OK || r.Kind != api.AskRows {
@@ -43,7 +43,7 @@ func isOf(f api.Triple, worker, workers int) bool {
 }
 
 // storesOf are workers' stores of facts, and their last version. Facts come one batch behind the other, and all of them are gone, and there again, in between.
-func storesOf(t *testing.T, facts []api.Triple, workers int) ([]*store.Store, int) {
+func storesOf(t testing.TB, facts []api.Triple, workers int) ([]*store.Store, int) {
 	t.Helper()
 	all := make([]*store.Store, workers)
 	for i := range all {
@@ -81,7 +81,7 @@ type line struct{ from, to int }
 
 // world is the nodes of one try, and the notes under way between them.
 type world struct {
-	t       *testing.T
+	t       testing.TB
 	try     int
 	version int
 	head    *flow.Head
@@ -102,7 +102,7 @@ type world struct {
 type order func(l []mail) int
 
 // begun is a world of a query, of the last version of stores.
-func begun(t *testing.T, try, version int, q api.Query, stores []*store.Store, next order) *world {
+func begun(t testing.TB, try, version int, q api.Query, stores []*store.Store, next order) *world {
 	t.Helper()
 	w := &world{t: t, try: try, version: version, next: next, lines: map[line][]mail{}}
 	h, out, e := flow.NewHead(try, len(stores), version, q)
@@ -231,7 +231,7 @@ func wanted(facts []api.Triple, q api.Query, version int) api.Reply {
 }
 
 // held holds a try's reply against layer 11, and is it.
-func held(t *testing.T, facts []api.Triple, q api.Query, workers int, next order) api.Reply {
+func held(t testing.TB, facts []api.Triple, q api.Query, workers int, next order) api.Reply {
 	t.Helper()
 	stores, version := storesOf(t, facts, workers)
 	w := begun(t, 7, version, q, stores, next)
