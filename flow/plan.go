@@ -83,31 +83,28 @@ func (p *plan) term(t api.Term, names []string) int {
 
 // best is the atom that is to be searched next, and whether against the facts: one that begins at the fewest vertices, as far as can be known ahead.
 func (p *plan) best(rest []between) (at int, back bool) {
-	least := p.rank(rest[0].s, false)
+	least := p.rank(rest[0].s)
 	for i, x := range rest {
-		if r := p.rank(x.s, false); r < least {
+		// Against the facts only if it is better: they must be told to where their objects live.
+		if r := p.rank(x.s); r < least {
 			at, back, least = i, false, r
 		}
-		if r := p.rank(x.o, true); r < least {
+		if r := p.rank(x.o); r < least {
 			at, back, least = i, true, r
 		}
 	}
 	return at, back
 }
 
-// rank is the lesser, the fewer vertices a search may begin at; against the facts costs more, as they must be told to where their objects live.
-func (p *plan) rank(from int, back bool) int {
-	r := 4
+// rank is the lesser, the fewer vertices there are at which a search from a term begins: one, those at which another one ends, or all.
+func (p *plan) rank(from int) int {
 	switch {
 	case p.isWord(from):
-		r = 0
+		return 0
 	case p.feeder(from) >= 0:
-		r = 2
+		return 1
 	}
-	if back {
-		r++
-	}
-	return r
+	return 2
 }
 
 // isWord tells whether a term is a word.

@@ -331,21 +331,21 @@ func inUse() int {
 // What is kept is no more than the promises need: behind the end, little of what was found.
 func TestKeepsNoMore(t *testing.T) {
 	stores, version := storesOf(t, ring(300, "p"), 4)
-	q := parsed(t, "select ?x where { ?x p* ?y . ?y p* ?z }")
-	at := inUse()
-	w := begun(t, 4, version, q, stores, oldest)
-	most := 0
-	count := 0
-	w.before = func(mail) {
-		if count++; count%50 == 0 {
-			most = max(most, inUse()-at)
+	for _, asked := range []string{"select ?x where { ?x p* ?y . ?y p* ?z }", "select ?x where { ?x p* ?y . ?z none ?z }"} {
+		at := inUse()
+		w := begun(t, 4, version, parsed(t, asked), stores, oldest)
+		most, count := 0, 0
+		w.before = func(mail) {
+			if count++; count%50 == 0 {
+				most = max(most, inUse()-at)
+			}
 		}
+		w.run()
+		w.told, w.lines = nil, nil
+		if left := inUse() - at; left > most/5 || most < 5<<20 {
+			t.Errorf("%s: %d bytes behind the end, %d ahead of it", asked, left, most)
+		}
+		w.reply()
+		runtime.KeepAlive(w)
 	}
-	w.run()
-	w.told, w.lines = nil, nil
-	if left := inUse() - at; left > most/20 || most < 5<<20 {
-		t.Errorf("%d bytes behind the end, %d ahead of it", left, most)
-	}
-	w.reply()
-	runtime.KeepAlive(w)
 }

@@ -28,7 +28,7 @@ type Worker struct {
 
 // NewWorker is the part of a worker of a number, of so many, as a beginning note says, over its facts.
 func NewWorker(id, workers int, begin api.Note, s *store.Store) (*Worker, api.Errno) {
-	if workers < 1 || workers > api.MaxWorkers || id < 1 || id > workers {
+	if workers > api.MaxWorkers || id < 1 || id > workers {
 		return nil, api.ErrArg
 	}
 	a, ok := readAsked(begin)

@@ -69,6 +69,26 @@ func storesOf(t testing.TB, facts []api.Triple, workers int) ([]*store.Store, in
 	return all, version
 }
 
+// The kinds of notes, and the steps that the head tells of as the fifth Num of a step's note.
+const (
+	begins = 10 + iota
+	tells
+	steps
+	vertices
+	edges
+	ways
+	pairs
+	sizes
+	rows
+	many
+
+	toSpread = iota - 9
+	toSearch
+	toCount
+	toShare
+	toJoin
+)
+
 // mail is a note under way, the so manieth that was sent.
 type mail struct {
 	from, to int
@@ -212,11 +232,6 @@ func sameReply(a, b api.Reply) bool {
 // sameNote tells whether two notes say the same.
 func sameNote(a, b api.Note) bool {
 	return a.Kind == b.Kind && slices.Equal(a.Nums, b.Nums) && slices.Equal(a.Texts, b.Texts) && sameRows(a.Rows, b.Rows)
-}
-
-// sameOut tells whether two lists of notes are the same.
-func sameOut(a, b []flow.Out) bool {
-	return slices.EqualFunc(a, b, func(a, b flow.Out) bool { return a.To == b.To && sameNote(a.Note, b.Note) })
 }
 
 // sameTold tells whether two worlds went the same way.
