@@ -35,7 +35,7 @@ func NewHead(try, workers, version int, q api.Query) (*Head, []Out, api.Errno) {
 	}
 	h := &Head{version: version, plan: newPlan(q), rows: map[string]struct{}{}}
 	h.setUp(try, head, workers)
-	h.step = h.plan.first()
+	h.step = stepBegin
 	h.sizes = make([]int, len(h.plan.searches))
 	for worker := 1; worker <= workers; worker++ {
 		h.owe(worker)
@@ -127,7 +127,7 @@ func (h *Head) giveUp() {
 
 // next begins the next step, as all is quiet.
 func (h *Head) next() {
-	h.step++
+	h.step = h.plan.after(h.step)
 	h.anew()
 	switch h.step {
 	case stepShare:

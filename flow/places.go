@@ -67,17 +67,6 @@ func (m *automaton) next(at places) places {
 	return all
 }
 
-// having are the places that have a word.
-func (m *automaton) having(word string) places {
-	var all places
-	for place, there := range m.words {
-		if there == word {
-			all |= only(place)
-		}
-	}
-	return all
-}
-
 // leadsTo tells whether places are some to which words lead.
 func (m *automaton) leadsTo(at places) bool {
 	return 0 < at && at < only(len(m.words))

@@ -166,13 +166,18 @@ func (p *plan) wants(word string) bool {
 	return ok || p.whole
 }
 
-// first is the step with which a try begins: nothing is spread, if searches find all that they need with the facts of where they are.
-func (p *plan) first() int {
-	against := slices.ContainsFunc(p.searches, func(s search) bool { return s.back })
-	if against || p.whole || len(p.asks) > 0 {
-		return stepSpread
+// after is the step that comes behind one.
+func (p *plan) after(step int) int {
+	if step == stepBegin && !p.spreads() {
+		return stepSearch
 	}
-	return stepSearch
+	return step + 1
+}
+
+// spreads tells whether facts must be told to others: not, if searches find all that they need with the facts of where they are.
+func (p *plan) spreads() bool {
+	against := slices.ContainsFunc(p.searches, func(s search) bool { return s.back })
+	return against || p.whole || len(p.asks) > 0
 }
 
 // variables are the terms of a search that are variables.

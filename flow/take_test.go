@@ -138,6 +138,23 @@ func (w *world) forgeries(m mail, none func(to, from int, n api.Note)) {
 		}
 	}
 	if m.note.Kind == begins {
+		if slices.ContainsFunc(w.told, func(o mail) bool { return o.to == m.to }) {
+			return
+		}
+		// Ahead of its beginning note a worker takes nothing.
+		for kind := range 20 {
+			for from := range len(w.workers) + 1 {
+				for _, more := range [][]int{nil, {1}, {2}, {3}} {
+					for _, row := range [][]string{nil, {}, {"ann"}, {"ann", "ann"}, {"0", "ann", "ann"}, {"0", "1", "ann", "ann"}} {
+						n := api.Note{Kind: kind, Nums: append([]int{w.try, 0, 0, 0}, more...)}
+						if row != nil {
+							n.Rows = [][]string{row}
+						}
+						none(m.to, from, w.forged(from, m.to, n))
+					}
+				}
+			}
+		}
 		return
 	}
 	none(m.to, m.to, w.forged(m.to, m.to, m.note))
@@ -256,13 +273,26 @@ func TestTakesNothingOfMany(t *testing.T) {
 	}
 }
 
-// Fl1: a worker's part takes notes of other workers ahead of the beginning note, and of the head none.
+// Fl1: a worker's part begins with the beginning note, be it late: nothing is sent there ahead of it, so that the part need not be there.
 func TestAheadOfBeginning(t *testing.T) {
 	r := rand.New(rand.NewSource(177))
 	for _, late := range []int{1, 2, 3} {
 		for _, atoms := range []string{"?x p+ ?y . ?y q* ?z", "?x p* ivy . ann p ?z", "ann p* ?x"} {
-			next := last(func(m mail) bool { return m.to == late && m.note.Kind == 10 })
-			held(t, factsOf(family), asking(t, r, atoms), 3, next)
+			q := asking(t, r, atoms)
+			stores, version := storesOf(t, factsOf(family), 3)
+			begun := begun(t, 4, version, q, stores, last(func(m mail) bool { return m.to == late }))
+			there := false
+			begun.before = func(m mail) {
+				if m.to == late && !there {
+					there = m.note.Kind == begins
+					if !there {
+						t.Errorf("%s: %v comes ahead of the beginning note", atoms, m)
+					}
+				}
+			}
+			if r, want := begun.run(), wanted(factsOf(family), q, version); !sameReply(r, want) || !there {
+				t.Errorf("%s: %v, want %v", atoms, r, want)
+			}
 		}
 	}
 }

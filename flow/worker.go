@@ -47,12 +47,11 @@ func NewWorker(id, workers int, begin api.Note, s *store.Store) (*Worker, api.Er
 func newWorker(id, workers int, a asked, facts []api.Triple) *Worker {
 	w := &Worker{begin: a.note(), plan: newPlan(a.query), words: newLexicon(workers)}
 	w.setUp(a.try, id, workers)
-	w.step = w.plan.first() - 1
 	w.pairs = make([][][2]int, len(w.plan.searches))
 	w.boxes = make([][]letter, workers+1)
 	w.hunt = newHunt(w.plan, w.words)
 	w.read(facts)
-	if w.plan.first() == stepSpread {
+	if w.plan.spreads() {
 		w.facts = facts
 	}
 	return w
@@ -74,15 +73,14 @@ func (w *Worker) takes(from int, n api.Note) bool {
 	switch {
 	case w.isBegin(from, n):
 		w.wake(from)
-		w.begin = api.Note{}
-		w.enter(w.step+1, nil)
+		w.begin, w.step = api.Note{}, stepBegin
 	case !w.isNext(from, n):
 		return false
 	case w.isTold(from, n):
 		w.hear(from)
 	case w.isStep(from, n):
 		w.wake(from)
-		w.enter(w.step+1, n.Nums[heading+1:])
+		w.enter(n.Nums[heading], n.Nums[heading+1:])
 	case w.isData(from, n):
 		w.wake(from)
 		for _, row := range n.Rows {
@@ -94,9 +92,9 @@ func (w *Worker) takes(from int, n api.Note) bool {
 	return true
 }
 
-// isBegin tells whether a note is the beginning note, and the first one of the head.
+// isBegin tells whether a note is the beginning note, for the first time.
 func (w *Worker) isBegin(from int, n api.Note) bool {
-	return from == head && w.lines[head].taken == 0 && sameNote(n, w.begin)
+	return from == head && w.step < stepBegin && sameNote(n, w.begin)
 }
 
 // isStep tells whether a note that is the next one of a node lets the next step begin.
@@ -105,7 +103,7 @@ func (w *Worker) isStep(from int, n api.Note) bool {
 		return false
 	}
 	step, more := n.Nums[heading], n.Nums[heading+1:]
-	if step != w.step+1 {
+	if w.step < stepBegin || step != w.plan.after(w.step) {
 		return false
 	}
 	if step == stepShare {
@@ -122,7 +120,7 @@ func (w *Worker) isData(from int, n api.Note) bool {
 	}
 	// A worker that was told of the next step may send ahead of this one's being told.
 	step := stepOf(n.Kind)
-	if step < w.plan.first() || step != w.step && step != w.step+1 {
+	if step < stepBegin || step != w.step && step != w.plan.after(w.step) {
 		return false
 	}
 	return !slices.ContainsFunc(n.Rows, func(row []string) bool { return !w.isFor(n.Kind, row) })

@@ -82,7 +82,7 @@ const (
 	rows
 	many
 
-	toSpread = iota - 9
+	toSpread = iota - 8
 	toSearch
 	toCount
 	toShare
