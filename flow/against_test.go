@@ -265,6 +265,23 @@ func TestGreatQueries(t *testing.T) {
 	held(t, nil, parsed(t, "select ?x where { ?x p* ?x }"), 8, oldest)
 }
 
+// Fl3: many words that are as long as may be: notes are such as lines take.
+func TestLongWords(t *testing.T) {
+	var facts []api.Triple
+	for i := range 1900 {
+		n := strconv.Itoa(1000 + i)
+		facts = append(facts, api.Triple{S: strings.Repeat("s", 12) + n, P: strings.Repeat("p", 16), O: strings.Repeat("o", 12) + n})
+	}
+	p := facts[0].P
+	for _, atoms := range []string{"?x " + p + "* ?x", "?x " + p + " ?y", "?x " + p + "* " + facts[7].O, facts[7].S + " " + p + " ?y . ?x " + p + " ?z"} {
+		for _, workers := range []int{1, 2, 3} {
+			if r := held(t, facts, asking(t, rand.New(rand.NewSource(184)), atoms), workers, oldest); len(r.Rows) == 0 {
+				t.Errorf("%s: no rows", atoms)
+			}
+		}
+	}
+}
+
 // Fl3: all turns of notes of small worlds, some of them from the second step on. How a world stands hangs on the order in which notes came to each node, not on those of others in between: each is gone on from once.
 func TestAllTurns(t *testing.T) {
 	for _, x := range []struct {
