@@ -61,8 +61,12 @@ func TestToldOnce(t *testing.T) {
 // Nothing is spread that searches do not ask for.
 func TestSpreads(t *testing.T) {
 	for _, atoms := range []string{"?x p ?y", "?x p+ ?y . ?y q* ?z", "ann p+ ?x . ?x (p|q)* ?y", "?x p/q ?y . ?y q? ?x", "ann p+ cat . ?x q ?y", "zoe p ?x . ?x r* ?y"} {
-		if l := rowsOf(went(t, atoms, 3), vertices, edges); len(l) > 0 {
+		told := went(t, atoms, 3)
+		if l := rowsOf(told, vertices, edges); len(l) > 0 {
 			t.Errorf("%s: %v", atoms, l)
+		}
+		if slices.ContainsFunc(told, func(m mail) bool { return m.note.Kind == steps && m.note.Nums[4] == toSpread }) {
+			t.Errorf("%s: a step in which nothing is spread", atoms)
 		}
 	}
 	for atoms, want := range map[string]string{"ivy p* ?x": "ivy", "cat p? ?x . ?y s ?z": "cat", "eve p* dan . ?y s ?z": "eve"} {
