@@ -9,6 +9,7 @@ import (
 	"sinew/api"
 	"sinew/commit"
 	"sinew/flow"
+	"sinew/wire"
 )
 
 // id is an id of the client 1.
@@ -273,27 +274,30 @@ func TestOthersNotes(t *testing.T) {
 			}
 		}
 	}
-	nothing("ahead of a batch")
-	ask := w.begin(id(2), coming("a", "d", "e"))
-	w.all = ask
-	vote := w.answers(ask)
-	w.all = append(w.all, vote...)
-	nothing("no vote")
-	w.come(vote[0])
-	nothing("one vote")
-	w.come(vote[1])
-	tell, _ := w.come(vote[2])
-	w.all = append(w.all, tell...)
-	know := w.answers(tell)
-	w.all = append(w.all, know...)
-	nothing("all votes")
-	w.come(know[2])
-	nothing("one knows")
-	w.come(know[0])
-	w.come(know[1])
-	nothing("all know")
-	w.anew(0, true)
-	nothing("anew")
+	var ask, vote, tell, know []mail
+	for _, stage := range []struct {
+		when string
+		do   func()
+	}{
+		{"ahead of a batch", func() {}},
+		{"no vote", func() {
+			ask = w.begin(id(2), coming("a", "d", "e"))
+			vote = w.answers(ask)
+			w.all = append(ask, vote...)
+		}},
+		{"one vote", func() { w.come(vote[0]) }},
+		{"all votes", func() {
+			tell = w.answers(vote[1:])
+			know = w.answers(tell)
+			w.all = append(append(w.all, tell...), know...)
+		}},
+		{"one knows", func() { w.come(know[2]) }},
+		{"all know", func() { w.answers(know[:2]) }},
+		{"anew", func() { w.anew(0, true) }},
+	} {
+		stage.do()
+		nothing(stage.when)
+	}
 	w.settle()
 	w.agrees()
 }
@@ -346,12 +350,10 @@ func others(n api.Note) (all []api.Note) {
 	return all
 }
 
-// copied is a note in memory of its own.
+// copied is a note that may be in memory of its own.
 func copied(n api.Note) api.Note {
-	other := api.Note{Kind: n.Kind, Nums: slices.Clone(n.Nums), Texts: slices.Clone(n.Texts)}
-	for _, row := range n.Rows {
-		other.Rows = append(other.Rows, slices.Clone(row))
-	}
+	s, _ := wire.Pack(n)
+	other, _, _ := wire.Unpack(s)
 	return other
 }
 

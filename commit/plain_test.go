@@ -1,13 +1,11 @@
 package commit_test
 
 import (
-	"cmp"
 	"maps"
 	"slices"
 	"strings"
 
 	"sinew/api"
-	"sinew/check"
 )
 
 // What a note must mean.
@@ -49,21 +47,10 @@ func (f facts) with(l []api.Change) facts {
 	return g
 }
 
-// sorted are they, by their bytes.
+// sorted are they, by their bytes: a blank is below all that words have.
 func (f facts) sorted() []api.Triple {
-	return slices.SortedFunc(maps.Keys(f), func(a, b api.Triple) int {
-		return cmp.Or(strings.Compare(a.S, b.S), strings.Compare(a.P, b.P), strings.Compare(a.O, b.O))
-	})
-}
-
-// living are the changes whose subjects live with a worker, of so many.
-func living(l []api.Change, worker, workers int) (some []api.Change) {
-	for _, c := range l {
-		if home, _ := check.Home(c.T.S, workers); home == worker-1 {
-			some = append(some, c)
-		}
-	}
-	return some
+	text := func(t api.Triple) string { return t.S + " " + t.P + " " + t.O }
+	return slices.SortedFunc(maps.Keys(f), func(a, b api.Triple) int { return strings.Compare(text(a), text(b)) })
 }
 
 // attempt is a batch that began.

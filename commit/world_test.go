@@ -336,6 +336,16 @@ func homed(begin string, count, worker, workers int) (l []string) {
 	return l
 }
 
+// living are the changes whose subjects live with a worker, of so many.
+func living(l []api.Change, worker, workers int) (some []api.Change) {
+	for _, c := range l {
+		if home, _ := check.Home(c.T.S, workers); home == worker-1 {
+			some = append(some, c)
+		}
+	}
+	return some
+}
+
 // coming are changes by which facts about subjects come.
 func coming(subjects ...string) (l []api.Change) {
 	for _, s := range subjects {
