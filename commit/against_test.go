@@ -3,6 +3,8 @@ package commit_test
 import (
 	"fmt"
 	"math/rand"
+	"slices"
+	"sync"
 	"testing"
 
 	"sinew/api"
@@ -157,4 +159,29 @@ func isAll(t *testing.T, counts map[string]int, least int, names ...string) {
 			t.Errorf("%s: %d times", name, counts[name])
 		}
 	}
+}
+
+// R4: the same calls have the same answers, also at the same time of other nodes.
+func TestSameAnswers(t *testing.T) {
+	play := func(seed int64) []mail {
+		s := &storm{Rand: rand.New(rand.NewSource(seed)), world: newWorld(t, 3), crashes: 20, counts: map[string]int{}}
+		s.rage(300)
+		return s.all
+	}
+	var first [][]mail
+	for seed := range 20 {
+		first = append(first, play(int64(seed)))
+	}
+	same := func(a, b mail) bool { return a.from == b.from && a.to == b.to && sameNote(a.note, b.note) }
+	var wait sync.WaitGroup
+	for range 6 {
+		wait.Go(func() {
+			for seed, want := range first {
+				if !slices.EqualFunc(play(int64(seed)), want, same) {
+					t.Errorf("seed %d: other notes went", seed)
+				}
+			}
+		})
+	}
+	wait.Wait()
 }

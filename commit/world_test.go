@@ -4,6 +4,7 @@ import (
 	"fmt"
 	"math/rand"
 	"slices"
+	"strings"
 	"testing"
 
 	"sinew/api"
@@ -34,6 +35,8 @@ type world struct {
 	under []mail
 	all   []mail
 	ids   []api.Id
+	// careless is whoever calls: whatever was handed in, and answered, is written over then.
+	careless bool
 }
 
 // newWorld is one in which nothing was done.
@@ -83,11 +86,13 @@ func (w *world) copied() *world {
 func (w *world) start(node int) {
 	w.t.Helper()
 	var e api.Errno
+	book, back := w.lent(w.books[node]...)
 	if node == 0 {
-		w.head, e = commit.NewHead(w.workers, w.books[0])
+		w.head, e = commit.NewHead(w.workers, book)
 	} else {
-		w.parts[node-1], e = commit.NewPart(w.books[node])
+		w.parts[node-1], e = commit.NewPart(book)
 	}
+	back()
 	if e != api.OK {
 		w.t.Fatalf("node %d of %d does not begin from its journal: %d", node, w.workers, e)
 	}
@@ -125,13 +130,18 @@ func (w *world) headStands() {
 	if h.Busy() != p.busy() || h.Version() != len(order) {
 		w.t.Fatalf("Busy %t, Version %d, want %t, %d", h.Busy(), h.Version(), p.busy(), len(order))
 	}
-	if l := h.Order(); !slices.EqualFunc(l, order, func(id api.Id, a attempt) bool { return id == a.id }) {
+	l := h.Order()
+	if !slices.EqualFunc(l, order, func(id api.Id, a attempt) bool { return id == a.id }) {
 		w.t.Fatalf("Order: %v, want %v", l, order)
+	}
+	if w.careless {
+		clear(l[:cap(l)])
 	}
 	w.endsOf(w.ids[max(0, len(w.ids)-3):])
 	// Of many workers it takes long, and is held against the same when notes go.
 	if w.workers < 10 || len(w.under)%16 == 0 {
-		w.isAgain(h.Again())
+		_, out := w.kept(nil, h.Again())
+		w.isAgain(out)
 	}
 }
 
@@ -215,6 +225,7 @@ func (w *world) send(l []mail) {
 // mails are the head's notes.
 func (w *world) mails(out []flow.Out) (l []mail) {
 	w.t.Helper()
+	_, out = w.kept(nil, out)
 	w.isAgain(out)
 	_, what := w.plain.again()
 	for _, o := range out {
@@ -226,7 +237,13 @@ func (w *world) mails(out []flow.Out) (l []mail) {
 // begin begins a batch: what goes then.
 func (w *world) begin(id api.Id, l []api.Change) []mail {
 	w.t.Helper()
-	write, out, e := w.head.Begin(id, l)
+	lent := append(slices.Clone(l), coming("behind")...)[:len(l)]
+	write, out, e := w.head.Begin(id, lent)
+	if !slices.Equal(lent, l) || lent[:len(l)+1][len(l)].T.S != "behind" {
+		w.t.Fatalf("Begin has changed %v", l)
+	}
+	clear(lent)
+	write, out = w.kept(write, out)
 	if w.plain.busy() {
 		if len(write) != 0 || len(out) != 0 || e != api.ErrBusy {
 			w.t.Fatalf("Begin(%v), while one is under way: %v, %v, %d", id, write, out, e)
@@ -244,12 +261,25 @@ func (w *world) begin(id api.Id, l []api.Change) []mail {
 	return w.mails(out)
 }
 
+// take lets a node take a note of another one: what it writes, and what goes.
+func (w *world) take(to, from int, n api.Note) (write []api.Note, out []flow.Out) {
+	w.t.Helper()
+	l, back := w.lent(n)
+	if to == 0 {
+		write, out = w.head.Take(from, l[0])
+	} else {
+		write, out = w.parts[to-1].Take(l[0])
+	}
+	back()
+	return w.kept(write, out)
+}
+
 // come lets a note come: what goes then, and whether one is written.
 func (w *world) come(m mail) ([]mail, bool) {
 	w.t.Helper()
 	defer w.stands(m.to)
+	write, out := w.take(m.to, m.from, m.note)
 	if m.to == 0 {
-		write, out := w.head.Take(m.from, m.note)
 		ends := w.plain.take(m.from, m.means)
 		w.writes(0, write, ends)
 		if ends {
@@ -260,7 +290,6 @@ func (w *world) come(m mail) ([]mail, bool) {
 		}
 		return nil, false
 	}
-	write, out := w.parts[m.to-1].Take(m.note)
 	wrote, answer := w.plains[m.to-1].take(m.means, w.plain.attempts[m.means.number-1])
 	w.writes(m.to, write, wrote)
 	if answer == (says{}) {
@@ -370,4 +399,26 @@ func someChanges(r *rand.Rand) (l []api.Change) {
 		l = append(l, api.Change{Gone: r.Intn(3) == 0, T: api.Triple{S: word(12), P: word(2), O: word(2)}})
 	}
 	return l
+}
+
+// sum is that which a note has behind its numbers.
+func sum(n api.Note) int {
+	l := []string{fmt.Sprint(n.Kind)}
+	for _, num := range n.Nums[:len(n.Nums)-1] {
+		l = append(l, fmt.Sprint(num))
+	}
+	for _, row := range n.Rows {
+		l = append(l, row...)
+	}
+	return check.Sum(strings.Join(l, " "))
+}
+
+// noteOf is a note of a body's bytes, whose sum is put right if it should be; false, if it is none.
+func noteOf(body string, right bool) (api.Note, bool) {
+	bytes := func(n int) string { return string([]byte{byte(n >> 24), byte(n >> 16), byte(n >> 8), byte(n)}) }
+	n, _, e := wire.Unpack(bytes(len(body)) + bytes(check.Sum(body)) + body)
+	if right && len(n.Nums) > 0 {
+		n.Nums[len(n.Nums)-1] = sum(n)
+	}
+	return n, e == api.OK
 }
