@@ -255,3 +255,151 @@ func TestMixedJournals(t *testing.T) {
 		t.Errorf("%d were a head's, %d a worker's", heads, parts)
 	}
 }
+
+// The kinds of notes.
+const (
+	began = 20 + iota
+	ended
+	ask
+	tell
+	vote
+	know
+	voted
+	over
+)
+
+// forged is a note of numbers and rows whose sum is right.
+func forged(kind int, rows [][]string, nums ...int) api.Note {
+	n := api.Note{Kind: kind, Nums: append(nums, 0), Rows: rows}
+	n.Nums[len(nums)] = sum(n)
+	return n
+}
+
+// Co1: notes whose sum is right, but that no head writes: none of a head's, from the first one on or behind others.
+func TestHeadForged(t *testing.T) {
+	is := func(want api.Errno, l ...api.Note) {
+		t.Helper()
+		if h, e := commit.NewHead(3, l); e != want || (h == nil) != (e != api.OK) {
+			t.Errorf("NewHead(3, %v): %d, want %d", l, e, want)
+		}
+	}
+	first := forged(began, nil, 1, 3, 0, 1, 0, 1)
+	is(api.OK, first)
+	is(api.OK, first, forged(began, nil, 2, 3, 0, 1, 0, 1))
+	is(api.OK, first, forged(ended, nil, 1, 1))
+	is(api.OK, first, forged(ended, nil, 1, 2))
+	for _, n := range []api.Note{
+		forged(began, nil, 0, 3, 0, 1, 0, 1), forged(began, nil, 2, 3, 0, 1, 0, 1), forged(began, nil, 1, 2, 0, 1, 0, 1), forged(began, nil, 1, 4, 0, 1, 0, 1),
+		forged(began, nil, 1, 3, 1<<32, 1, 0, 1), forged(began, nil, 1, 3, 0, 1<<32, 0, 1), forged(began, nil, 1, 3, 0, 1, -1, 1), forged(began, nil, 1, 3, 0, 1, 0, 1<<40),
+		forged(began, nil, 1, 3, 0, 1, 0), forged(began, nil, 1, 3, 0, 1, 0, 1, 0), forged(began, nil), forged(began, [][]string{{}}, 1, 3, 0, 1, 0, 1),
+		forged(ended, nil, 0, 1), forged(ended, nil, 1, 1), forged(ended, nil, -1, 1), forged(ended, nil),
+		forged(ask, nil, 1, 1, 3), forged(tell, nil, 1, 1), forged(vote, nil, 1, 1), forged(know, nil, 1), forged(voted, nil, 1, 1, 3), forged(over, nil, 1, 1),
+	} {
+		is(api.ErrArg, n)
+	}
+	for _, n := range []api.Note{
+		forged(ended, nil, 1, 0), forged(ended, nil, 1, 3), forged(ended, nil, 1, -1), forged(ended, nil, 0, 1), forged(ended, nil, 2, 1), forged(ended, nil, 1), forged(ended, nil, 1, 1, 1), forged(ended, [][]string{{}}, 1, 1),
+		forged(began, nil, 1, 3, 0, 1, 0, 1), forged(began, nil, 3, 3, 0, 1, 0, 1), forged(began, nil, 2, 2, 0, 1, 0, 1), forged(over, nil, 1, 1),
+	} {
+		is(api.ErrArg, first, n)
+	}
+	is(api.ErrArg, first, forged(ended, nil, 1, 1), forged(ended, nil, 1, 1))
+	is(api.ErrArg, first, forged(ended, nil, 1, 2), forged(ended, nil, 1, 1))
+	is(api.ErrArg, first, forged(ended, nil, 1, 1), forged(ended, nil, 2, 1))
+}
+
+// Co3: notes whose sum is right, but that no worker writes, and no head sends: none of a worker's, and nothing comes of them.
+func TestPartForged(t *testing.T) {
+	home := homed("s", 65, 2, 3)
+	rows := func(l []string) (rows [][]string) {
+		for _, s := range l {
+			rows = append(rows, []string{"+", s, "p", "o"})
+		}
+		return rows
+	}
+	row := func(l ...string) [][]string { return [][]string{l} }
+	away := homed("s", 1, 1, 3)[0]
+	right := []api.Note{forged(0, nil, 1, 2, 3), forged(0, rows(home[:64]), 1, 2, 3), forged(0, row("-", home[0], "p", "o"), 1, 2, 3)}
+	wrong := []api.Note{
+		forged(0, nil, 0, 2, 3), forged(0, nil, 2, 2, 3), forged(0, nil, 1, 0, 3), forged(0, nil, 1, 4, 3), forged(0, nil, 1, 2, 65), forged(0, nil, 1, 2, 0), forged(0, nil, 1, -1, -1), forged(0, nil, 1, 2), forged(0, nil, 1, 2, 3, 4), forged(0, nil),
+		forged(0, rows(home), 1, 2, 3), forged(0, row("+", away, "p", "o"), 1, 2, 3), forged(0, append(rows(home[:1]), row("+", away, "p", "o")...), 1, 2, 3), forged(0, row("+", home[0], "p", "o"), 1, 1, 3),
+		forged(0, row("", home[0], "p", "o"), 1, 2, 3), forged(0, row("?", home[0], "p", "o"), 1, 2, 3), forged(0, row("+", home[0], "p"), 1, 2, 3), forged(0, row("+", home[0], "p", "o", "o"), 1, 2, 3), forged(0, row(), 1, 2, 3), forged(0, row("+", home[0], "P", "o"), 1, 2, 3), forged(0, row("+", home[0], "p", ""), 1, 2, 3),
+	}
+	// as is the same note of another kind.
+	as := func(kind int, n api.Note) api.Note {
+		return forged(kind, n.Rows, n.Nums[:len(n.Nums)-1:len(n.Nums)-1]...)
+	}
+	check := func(n api.Note, may bool) {
+		t.Helper()
+		if _, e := commit.NewPart([]api.Note{as(voted, n)}); (e == api.OK) != may {
+			t.Errorf("NewPart(%v): %d", as(voted, n), e)
+		}
+		p, _ := commit.NewPart(nil)
+		if write, out := p.Take(as(ask, n)); (len(write) == 1) != may || (len(out) == 1) != may || p.Waits() != may {
+			t.Errorf("Take(%v): %v, %v", as(ask, n), write, out)
+		}
+	}
+	for _, n := range right {
+		check(n, true)
+	}
+	for _, n := range wrong {
+		check(n, false)
+	}
+	begins := as(voted, right[1])
+	ends := func(want api.Errno, version int, l ...api.Note) {
+		t.Helper()
+		p, e := commit.NewPart(l)
+		if e != want || e == api.OK && p.Store().Version() != version {
+			t.Errorf("NewPart(%v): %d", l, e)
+		}
+		// The same as the head tells it.
+		p, _ = commit.NewPart(l[:len(l)-1])
+		write, out := p.Take(as(tell, l[len(l)-1]))
+		if (len(write) == 1) != (want == api.OK) || (len(out) == 1) != (want == api.OK) || p.Store().Version() != version {
+			t.Errorf("behind %d notes, Take(%v): %v, %v, version %d", len(l)-1, as(tell, l[len(l)-1]), write, out, p.Store().Version())
+		}
+	}
+	for how, want := range map[int]api.Errno{-1: api.ErrArg, 0: api.OK, 1: api.OK, 2: api.OK, 3: api.ErrArg, 4: api.ErrArg} {
+		version := 0
+		if how == 1 {
+			version = 1
+		}
+		ends(want, version, begins, forged(over, nil, 1, how))
+		if how == 1 {
+			want = api.ErrArg
+		}
+		ends(want, 0, forged(over, nil, 1, how))
+	}
+	ends(api.ErrArg, 0, begins, forged(over, nil, 2, 1))
+	ends(api.ErrArg, 0, begins, forged(over, nil, 0, 1))
+	ends(api.ErrArg, 0, forged(over, nil, 0, 0))
+	ends(api.ErrArg, 0, begins, forged(over, nil, 1))
+	ends(api.ErrArg, 0, begins, forged(over, nil, 1, 1, 1))
+	ends(api.ErrArg, 0, begins, forged(over, [][]string{{}}, 1, 1))
+}
+
+// Co1: notes whose sum is right, but that no worker sends: nothing comes of them.
+func TestVoteForged(t *testing.T) {
+	w := newWorld(t, 1)
+	w.begin(id(1), coming("a"))
+	for _, n := range []api.Note{
+		forged(vote, nil, 0, 1), forged(vote, nil, 2, 1), forged(vote, nil, 1, 2), forged(vote, nil, 1, -1), forged(vote, nil, 1), forged(vote, nil, 1, 1, 1), forged(vote, nil), forged(vote, [][]string{{"+"}}, 1, 1),
+		forged(know, nil, 1), forged(know, nil, 0), forged(know, nil, 1, 1), forged(tell, nil, 1, 1), forged(over, nil, 1, 1), forged(ended, nil, 1, 1),
+	} {
+		if write, out := w.head.Take(1, n); len(write) != 0 || len(out) != 0 {
+			t.Errorf("Take(1, %v): %v, %v", n, write, out)
+		}
+		w.headStands()
+	}
+	if write, out := w.head.Take(1, forged(vote, nil, 1, 1)); len(write) != 1 || len(out) != 1 {
+		t.Errorf("a vote: %v, %v", write, out)
+	}
+	for _, n := range []api.Note{forged(know, nil, 0), forged(know, nil, 2), forged(know, nil, 1, 1), forged(know, nil), forged(know, [][]string{{}}, 1), forged(vote, nil, 1, 1), forged(vote, nil, 1, 0)} {
+		if w.head.Take(1, n); !w.head.Busy() {
+			t.Errorf("Take(1, %v) ends it", n)
+		}
+	}
+	if w.head.Take(1, forged(know, nil, 1)); w.head.Busy() {
+		t.Error("all know")
+	}
+}

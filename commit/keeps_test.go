@@ -91,3 +91,33 @@ func TestKeepsIds(t *testing.T) {
 	}
 	runtime.KeepAlive(w)
 }
+
+// A batch that ended is not kept, neither by the head nor by parts, but for the facts that it made: of one that was refused there are none.
+func TestKeepsNoBatch(t *testing.T) {
+	const many = 200
+	l := going(homed("some-subject-", 64, 1, 1)...)
+	book := newWorld(t, 1)
+	book.batch(id(0), l)
+	at := size()
+	var heads []*commit.Head
+	var parts []*commit.Part
+	for range many {
+		h, _ := commit.NewHead(1, nil)
+		p, _ := commit.NewPart(nil)
+		_, out, _ := h.Begin(id(1), l)
+		for range 2 {
+			_, answer := p.Take(out[0].Note)
+			_, out = h.Take(1, answer[0].Note)
+		}
+		again, e := commit.NewPart(book.books[1])
+		if h.Version() != 1 || p.Store().Version() != 1 || e != api.OK {
+			t.Fatal(h.Version(), p.Store().Version(), e)
+		}
+		heads, parts = append(heads, h), append(parts, p, again)
+	}
+	if more := size() - at; more > many*3000 {
+		t.Errorf("%d bytes are kept of %d batches", more, many)
+	}
+	runtime.KeepAlive(heads)
+	runtime.KeepAlive(parts)
+}
