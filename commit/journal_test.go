@@ -403,3 +403,32 @@ func TestVoteForged(t *testing.T) {
 		t.Error("all know")
 	}
 }
+
+// Co1: votes against a batch, of nobody, or of a worker that has voted already: they do not count.
+func TestVoteOfNobody(t *testing.T) {
+	w := newWorld(t, 2)
+	l := w.answers(w.begin(id(1), coming("a", "b")))
+	no := forged(vote, nil, 1, 0)
+	for _, m := range l {
+		for _, from := range []int{0, -1, 3, 64, 65, 1 << 40, -1 << 63} {
+			if write, out := w.head.Take(from, no); len(write) != 0 || len(out) != 0 {
+				t.Errorf("Take(%d): %v, %v", from, write, out)
+			}
+		}
+		w.send(w.answers([]mail{m}))
+		w.head.Take(m.from, no)
+		w.headStands()
+	}
+	if w.head.Version() != 1 {
+		t.Errorf("version %d", w.head.Version())
+	}
+	w.settle()
+	w.agrees()
+	// That of a worker counts.
+	w.begin(id(2), coming("c"))
+	w.head.Take(1, forged(vote, nil, 2, 1))
+	w.head.Take(2, forged(vote, nil, 2, 0))
+	if v, e := w.head.Ended(id(2)); v != 0 || e != api.ErrAbort {
+		t.Errorf("a vote against it: %d, %d", v, e)
+	}
+}
